@@ -1,13 +1,11 @@
 package trig_test
 
 import (
-	"math"
 	"math/big"
 	"sync"
 	"testing"
 
 	"almucantar/api"
-	"almucantar/trig"
 )
 
 const (
@@ -162,46 +160,6 @@ func TestAnswers(t *testing.T) {
 	for n, twice := range k.haversines {
 		if exact := n%(quarter/3*2) == 0 || n == quarter; exact != (twice%2 == 0) {
 			t.Errorf("the haversine of %d: %d", n, twice)
-		}
-	}
-}
-
-// value is the number that two limbs stand for, rounded down from more digits.
-func value(v *big.Int) [2]uint64 {
-	v = new(big.Int).Rsh(v, digits-128)
-	low := new(big.Int).And(v, new(big.Int).SetUint64(math.MaxUint64))
-	return [2]uint64{v.Rsh(v, 64).Uint64(), low.Uint64()}
-}
-
-// What the series are made of has all of its digits.
-func TestDigits(t *testing.T) {
-	if want := value(unit()); trig.Radian != want {
-		t.Errorf("the radian is %x; want %x", trig.Radian, want)
-	}
-	inverse := number(1, 1)
-	for i, got := range trig.Inverses {
-		inverse.Quo(inverse, big.NewInt(int64(i+2)))
-		if want := value(inverse); got != want {
-			t.Errorf("1 / %d! is %x; want %x", i+2, got, want)
-		}
-	}
-}
-
-// What is left of the digits of a sine is as much as the rounding needs: the error is less than 2^-77.
-func TestDigitsOfSines(t *testing.T) {
-	x := unit()
-	r := newNumbers()
-	for i := range 2000 {
-		n := 1 + r.source.IntN(quarter-1)
-		if i < 20 {
-			n = quarter/2 - 10 + i
-		}
-		want := powers(new(big.Int).Mul(x, big.NewInt(int64(n))), 1)
-		limbs := trig.Irrational(n)
-		got := new(big.Int).SetUint64(limbs[0])
-		got.Lsh(got, 64).Or(got, new(big.Int).SetUint64(limbs[1])).Lsh(got, digits-128)
-		if difference := got.Sub(got, want); difference.BitLen() > digits-77 {
-			t.Errorf("the digits of the sine of %d differ by %v", n, difference)
 		}
 	}
 }

@@ -1,4 +1,5 @@
-package trig
+// Package digits has sines with more digits than layer 6 returns, for the layers that decide by them how a number is rounded.
+package digits
 
 import (
 	"math/bits"
@@ -6,19 +7,20 @@ import (
 	"almucantar/api"
 )
 
-// limbs is the number l[0] / 2^64 + l[1] / 2^128, which is less than 1.
-type limbs [2]uint64
+// Limbs is the number l[0] / 2^64 + l[1] / 2^128, which is less than 1.
+type Limbs [2]uint64
 
+// Degrees of the polynomial that a series is cut off to.
 const (
-	oneBits = 30 // One is 2^30
-	degree  = 18 // of the polynomial of a series
+	Coarse = 18 // the sine errs by less than 2^-77
+	Fine   = 26 // the sine errs by less than 2^-106
 )
 
 // radian is a unit in radians, which is pi / HalfTurn, rounded down.
-var radian = limbs{0x000004e15af7c274, 0x63257af9836d967a}
+var radian = Limbs{0x000004e15af7c274, 0x63257af9836d967a}
 
-// inverses are 1 / 2!, 1 / 3!, and so on to 1 / 21!, rounded down.
-var inverses = [...]limbs{
+// inverses are 1 / 2!, 1 / 3!, and so on to 1 / 29!, rounded down.
+var inverses = [...]Limbs{
 	{0x8000000000000000, 0x0000000000000000},
 	{0x2aaaaaaaaaaaaaaa, 0xaaaaaaaaaaaaaaaa},
 	{0x0aaaaaaaaaaaaaaa, 0xaaaaaaaaaaaaaaaa},
@@ -39,23 +41,39 @@ var inverses = [...]limbs{
 	{0x0000000000000097, 0xa4da340a0ab92650},
 	{0x0000000000000007, 0x950ae900808941ea},
 	{0x0000000000000000, 0x5c6e3bdb73d5c62f},
+	{0x0000000000000000, 0x04338e5b6dfe14a5},
+	{0x0000000000000000, 0x002ec368262c7033},
+	{0x0000000000000000, 0x0001f2cf01972f57},
+	{0x0000000000000000, 0x000013f3ccdd165f},
+	{0x0000000000000000, 0x000000c4742fe352},
+	{0x0000000000000000, 0x0000000746ac70b7},
+	{0x0000000000000000, 0x0000000042862898},
+	{0x0000000000000000, 0x00000000024b3f31},
 }
 
-// irrational returns the sine of an angle of more than 0 and less than a right angle. It errs by less than 2^-77, where the series breaks off. This suffices for One times the sine to be rounded, because it is at least 2^-23 from every integer (a test goes through all angles).
-func irrational(n int) limbs {
+// Sine returns the sine of an angle of more than 0 and less than a right angle, by a series of a degree.
+func Sine(n, degree int) Limbs {
 	if n > api.Quarter/2 {
 		x := radians(api.Quarter - n)
 		square := times(x, x)
 		// The difference from 1 is the one from 0, since the 1 would be a limb that there is not.
-		return minus(limbs{}, times(square, series(2, square)))
+		return minus(Limbs{}, times(square, series(2, degree, square)))
 	}
 	x := radians(n)
 	square := times(x, x)
-	return minus(x, times(x, times(square, series(3, square))))
+	return minus(x, times(x, times(square, series(3, degree, square))))
+}
+
+// Times returns the product with n, which is not negative, whole: p[0] + p[1] / 2^64 + p[2] / 2^128.
+func (l Limbs) Times(n int) (p [3]uint64) {
+	between, low := bits.Mul64(l[1], uint64(n))
+	high, middle := bits.Mul64(l[0], uint64(n))
+	middle, carry := bits.Add64(middle, between, 0)
+	return [3]uint64{high + carry, middle, low}
 }
 
 // series returns 1 / k! - square / (k+2)! + square^2 / (k+4)! and so on, for k = 2 or 3 and a square of less than 1.
-func series(k int, square limbs) limbs {
+func series(k, degree int, square Limbs) Limbs {
 	first := k - 2
 	sum := inverses[first+degree]
 	for i := first + degree - 2; i >= first; i -= 2 {
@@ -65,28 +83,25 @@ func series(k int, square limbs) limbs {
 }
 
 // radians converts an angle of at most half a right angle.
-func radians(n int) limbs {
+func radians(n int) Limbs {
 	carry, low := bits.Mul64(radian[1], uint64(n))
-	return limbs{radian[0]*uint64(n) + carry, low}
+	return Limbs{radian[0]*uint64(n) + carry, low}
 }
 
-// scaled returns One times a number, rounded down.
-func scaled(a limbs) int { return int(a[0] >> (64 - oneBits)) }
-
 // minus returns a - b, or 1 + a - b if this is negative.
-func minus(a, b limbs) limbs {
+func minus(a, b Limbs) Limbs {
 	low, borrow := bits.Sub64(a[1], b[1], 0)
 	high, _ := bits.Sub64(a[0], b[0], borrow)
-	return limbs{high, low}
+	return Limbs{high, low}
 }
 
 // times returns the product, less than 3 / 2^128 too small.
-func times(a, b limbs) limbs {
+func times(a, b Limbs) Limbs {
 	high, low := bits.Mul64(a[0], b[0])
 	// The lower limbs of both mixed products and the product of the lower limbs are what is left out.
 	left, _ := bits.Mul64(a[0], b[1])
 	right, _ := bits.Mul64(a[1], b[0])
 	low, carryLeft := bits.Add64(low, left, 0)
 	low, carryRight := bits.Add64(low, right, 0)
-	return limbs{high + carryLeft + carryRight, low}
+	return Limbs{high + carryLeft + carryRight, low}
 }
